@@ -1,0 +1,1 @@
+"""Relations found, and which follow from which."""
