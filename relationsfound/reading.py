@@ -1,8 +1,7 @@
 """What is told as numbers, read number by number; what isn't as told is refused."""
 
-from relationsfound.families import Family
 from relationsfound.refusals import NotAsTold
-from relationsfound.relations import CONDITION_WITH_COUNT, CONDITIONS, GREATEST_COUNT, WAYS
+from relationsfound.relations import CONDITION_WITH_COUNT, CONDITIONS, GREATEST_COUNT, WAYS, Relation
 from relationsfound.rows import STEP_VALUES, STEPS
 
 MOST_STEPS = 8
@@ -55,7 +54,7 @@ def read_step(reader):
 
 
 def read_program(reader):
-    return read_several(reader, MOST_STEPS, read_step)
+    return tuple(read_several(reader, MOST_STEPS, read_step))
 
 
 def read_condition(reader):
@@ -90,7 +89,7 @@ def read_relation(reader):
     input_turning = read_program(reader)
     way = read_way(reader)
     output_turning = read_program(reader)
-    return Family([condition], [input_turning], [output_turning], [way])
+    return Relation(condition, input_turning, way, output_turning)
 
 
 def read_whole(numbers, read_thing):

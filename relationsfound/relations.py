@@ -4,6 +4,16 @@ A condition is its number and its k (0 where it has none), a way in which rows s
 """
 
 
+class Relation:
+    """A condition, an input's turning, how outputs stand, and an output's turning."""
+
+    def __init__(self, condition, input_turning, way, output_turning):
+        self.condition = condition
+        self.input_turning = input_turning
+        self.way = way
+        self.output_turning = output_turning
+
+
 def always(row, least_count):
     return True
 
@@ -30,6 +40,9 @@ def has_as_many(row, least_count):
 
 # At a condition's number stands what it asks of a row.
 CONDITIONS = (always, has_numbers, is_rising, none_below_zero, none_twice, has_as_many)
+
+CONDITION_ANY = 0
+CONDITION_HAS_NUMBERS = 1
 
 # The one condition that has a k, and the greatest one it may have.
 CONDITION_WITH_COUNT = 5

@@ -1,6 +1,6 @@
 """Steps on rows, and what comes of a program.
 
-A step is its number and its value (its c, m or k; 0 where it has none), a program is a list of steps.
+A step is its number and its value (its c, m or k; 0 where it has none), a program is a tuple of steps.
 """
 
 MOST_NUMBERS = 40

@@ -88,6 +88,25 @@ def held(numbers):
 
 
 FOUND = [5]
+STRONGEST = [6]
+LEAST_SET = [11]
+
+
+def tell(number):
+    """The call relation."""
+    return [7, number]
+
+
+def says(stronger, weaker):
+    return [8, stronger, weaker]
+
+
+def follows(numbers, asked):
+    return [9, asked] + row(numbers)
+
+
+def by(other, asked):
+    return [10, other, asked]
 
 
 def ask(*calls):
@@ -132,3 +151,44 @@ def at_one_row(length, number, ran, input_turning, way, output_turning):
         (0, 1, length, length): BROKEN,
         (0, 0, length + 1, -1): OFF,
     }[tuple(answer)]
+
+
+def behind_four(*calls):
+    """What calls answer, behind a family of four relations all of which the program holds.
+
+    The relations say that what comes out is rising (0), that no number stands in it twice (1), that none is below 0
+    (2), that there are up to three (3). What comes out of the program is always the row without numbers.
+    """
+    outputs = several(steps(SORT), steps(ONCE), steps(ABS), steps((TAKE, 3)))
+    told = [
+        program(steps((TAKE, 0))),
+        bound(4, 0, 1),
+        family(several(ANY), several(steps()), outputs, several(EQUAL)),
+    ]
+    return ask(*told, *calls)[len(told):]
+
+
+# Programs by which of these four relations they don't hold.
+THAT_MISSES = {
+    (): steps(COUNT),
+    (0,): steps(ONCE),
+    (1,): steps(SORT, (TAKE, 3)),
+    (2,): steps(SUM, (ADD, -1)),
+    (3,): steps((ADD, 1), SUMS),
+    (0, 1): steps((TAKE, 3)),
+    (0, 2): steps(ONCE, (ADD, -1)),
+    (0, 3): steps((ADD, 1), SUMS, REVERSE),
+    (1, 2): steps(SORT, (TAKE, 3), (ADD, -1)),
+    (1, 3): steps(SORT),
+    (2, 3): steps((ADD, 1), SUMS, (ADD, -2)),
+    (0, 1, 2): steps((TAKE, 3), (ADD, -1)),
+    (0, 1, 3): steps(),
+    (0, 2, 3): steps((ADD, 1), SUMS, REVERSE, (ADD, -2)),
+    (1, 2, 3): steps(SORT, (ADD, -1)),
+    (0, 1, 2, 3): steps((ADD, -1)),
+}
+
+
+def others_that_miss(*missed):
+    """Other programs, each told by which of the four relations it doesn't hold."""
+    return others(several(*[THAT_MISSES[numbers] for numbers in missed]))
